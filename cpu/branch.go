@@ -2,11 +2,9 @@ package cpu
 
 import (
 	"changeling/api"
+	"changeling/code"
 	"changeling/word"
 )
-
-// highestFour bits of a place, which a jump leaves as they are.
-const highestFour = 0xF << 28
 
 // branch: what stands behind it, in its slot, is done ahead of what it goes to.
 func (p *step) branch() int {
@@ -44,12 +42,9 @@ func (p *step) isTaken() bool {
 }
 
 func (p *step) target() uint32 {
-	behind := p.PC + wordBytes
 	switch p.Op {
-	case api.IJ, api.IJal:
-		return behind&highestFour | wordBytes*p.Imm
 	case api.IJr, api.IJalr:
 		return p.R[p.S]
 	}
-	return behind + wordBytes*p.imm()
+	return code.Target(p.Ins, p.PC)
 }

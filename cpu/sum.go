@@ -2,6 +2,7 @@ package cpu
 
 import (
 	"changeling/api"
+	"changeling/code"
 	"changeling/word"
 )
 
@@ -33,11 +34,11 @@ func (p *step) sum() int {
 func (p *step) operands() (a, b uint32, to int) {
 	switch p.Op {
 	case api.ISll, api.ISrl, api.ISra:
-		return p.R[p.T], p.imm(), p.D
+		return p.R[p.T], code.Imm(p.Ins), p.D
 	case api.ISllv, api.ISrlv, api.ISrav:
 		return p.R[p.T], p.R[p.S], p.D
 	case api.IAddi, api.IAddiu, api.ISlti, api.ISltiu, api.IAndi, api.IOri, api.IXori, api.ILui:
-		return p.R[p.S], p.imm(), p.T
+		return p.R[p.S], code.Imm(p.Ins), p.T
 	}
 	return p.R[p.S], p.R[p.T], p.D
 }

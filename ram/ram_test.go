@@ -297,6 +297,19 @@ func TestCopyOfNothing(t *testing.T) {
 	loads(t, x, 1024, 4, false, 6, nil)
 }
 
+// P1: memory that New did not make is as one of no words: others may be handed it.
+func TestRamThatNobodyMade(t *testing.T) {
+	r, other := &ram.Ram{}, &ram.Ram{}
+	loads(t, r, 8, 4, false, 0, nil)
+	hits(t, r)
+	stores(t, r, 8, 4, 7)
+	loads(t, r, 8, 4, false, 7, nil)
+	watch(t, other, true, 0)
+	stores(t, other, 8, 4, 7)
+	hits(t, other, 0)
+	holds(t, (&ram.Ram{}).Copy(), make([]uint32, api.RamSize/4))
+}
+
 // P41
 func TestWatchOfNoPage(t *testing.T) {
 	r := ram.New(nil)
