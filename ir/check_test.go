@@ -117,6 +117,15 @@ func TestFieldsOfEveryKind(t *testing.T) {
 	}
 }
 
+// P80: which fields are registers.
+func TestRegistersOfEveryKind(t *testing.T) {
+	for _, r := range append(rows(), row{kind: "", d: '-', a: '-', b: '-'}, row{kind: "what", d: '-', a: '-', b: '-'}) {
+		if d, a, b := ir.Registers(r.kind); d != (r.d == 'w') || a != (r.a == 'r') || b != (r.b == 'r') {
+			t.Errorf("%q: %v, %v, %v", r.kind, d, a, b)
+		}
+	}
+}
+
 // P81: a number is ahead of a field that it has not.
 func TestBoundIsAheadOfShape(t *testing.T) {
 	for _, o := range []api.Op{

@@ -85,7 +85,7 @@ func (m *run) do(o api.Op) bool {
 	case "quo", "rem", "quou", "remu":
 		m.divide(o)
 	default:
-		m.x[o.D] = result(o.Kind, m.x[o.A], m.x[o.B])
+		m.x[o.D] = Result(o.Kind, m.x[o.A], m.x[o.B])
 	}
 	return true
 }
@@ -111,8 +111,8 @@ func (m *run) leave(s *api.State, to uint32, many int) {
 	m.gate.open()
 }
 
-// result of a kind that hangs on two registers alone.
-func result(kind string, a, b uint32) uint32 {
+// Result of a kind that hangs on what two registers have alone: one with D, A and B, but load, store and the four of Div.
+func Result(kind string, a, b uint32) uint32 {
 	switch kind {
 	case "add":
 		return a + b

@@ -84,6 +84,9 @@ func TestResultsOfTwoRegisters(t *testing.T) {
 				want := left(s, 3, 200)
 				want.R[3] = result(row.kind, a, b, s.R[3])
 				leaves(t, fmt.Sprint(row.kind, a, b), c, s, r, want)
+				if divides := slices.Contains([]string{"quo", "rem", "quou", "remu"}, row.kind); !divides && ir.Result(row.kind, a, b) != want.R[3] {
+					t.Errorf("%s of %d, %d: %d", row.kind, a, b, ir.Result(row.kind, a, b))
+				}
 			}
 		}
 	}
