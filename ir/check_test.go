@@ -117,6 +117,22 @@ func TestFieldsOfEveryKind(t *testing.T) {
 	}
 }
 
+// P81: one op alone has the error that it has in a code, bare.
+func TestOneOpAlone(t *testing.T) {
+	for _, r := range rows() {
+		for n := -3; n <= 66; n++ {
+			for _, o := range []api.Op{{Kind: r.kind, D: n, A: 1, B: 1, At: 1}, {Kind: r.kind, D: 1, A: n, B: 1, At: 1}, {Kind: r.kind, D: 1, A: 1, B: n, At: 1}, {Kind: r.kind, D: 1, A: 1, B: 1, Imm: 4, At: n}} {
+				c, at := around(o)
+				want := ir.CheckOp(o, 3)
+				if want == nil && o.At == 0 {
+					want = api.ErrShape // the ops ahead of it are at 1
+				}
+				checks(t, fmt.Sprint(o), c, at, want)
+			}
+		}
+	}
+}
+
 // P80: which fields are registers.
 func TestRegistersOfEveryKind(t *testing.T) {
 	for _, r := range append(rows(), row{kind: "", d: '-', a: '-', b: '-'}, row{kind: "what", d: '-', a: '-', b: '-'}) {
