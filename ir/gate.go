@@ -43,16 +43,16 @@ func (g *gate) byteAt(addr uint32) uint32 {
 	return v
 }
 
-// store bytes; false: memory has an error, or their page is watched. A load has a store's errors, and changes nothing.
-func (g *gate) store(addr uint32, size int, v uint32) bool {
-	if _, err := g.memory.Load(addr, size, false); err != nil || g.memory.Watched(addr) {
-		return false
-	}
-	g.waiting = append(g.waiting, pending{addr, size, v})
-	return true
+// admits tells whether a store may wait: memory has no error for it, and its page is not watched. A load has a store's errors, and changes nothing.
+func (g *gate) admits(w pending) bool {
+	_, err := g.memory.Load(w.addr, w.size, false)
+	return err == nil && !g.memory.Watched(w.addr)
 }
 
-// open: memory takes what waits, in order. It has no error any more: each was looked at when it came.
+// hold a store that was admitted.
+func (g *gate) hold(w pending) { g.waiting = append(g.waiting, w) }
+
+// open: memory takes what waits, in order. It has no error for them: each was admitted.
 func (g *gate) open() {
 	for _, w := range g.waiting {
 		g.memory.Store(w.addr, w.size, w.value)

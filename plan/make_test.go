@@ -8,6 +8,7 @@ import (
 
 	"changeling/api"
 	"changeling/asm"
+	"changeling/host"
 	"changeling/ir"
 	"changeling/opt"
 	"changeling/plan"
@@ -50,12 +51,16 @@ func sorted(ops []api.Op) []string {
 	return l
 }
 
-// sameEnd holds a run of a plan against one of its code, and tells whether they trap.
+// sameEnd holds a run of a plan, worked out apart and by a host, against one of its code, and tells whether they trap.
 func sameEnd(t *testing.T, c ir.Code, p plan.Plan, s api.State, r *ram.Ram) bool {
 	t.Helper()
 	trap, left, words := runApart(p, s, r)
-	was := s
-	end, err := ir.Eval(c, &s, r)
+	was, hosted, memory := s, s, r.Copy()
+	end, err := host.Run(p, &hosted, memory)
+	if err != nil || end.Trap != trap || hosted != left || !slices.Equal(words, memory.Words()) {
+		t.Fatalf("%+v\nfrom %+v\nends %v at %+v,\nby a host %+v, %v, at %+v", p.Rows, was, trap, left, end, err, hosted)
+	}
+	end, err = ir.Eval(c, &s, r)
 	if err != nil || end.Trap != trap || s != left || !slices.Equal(words, r.Words()) {
 		t.Fatalf("%+v\nas %+v\nfrom %+v\nends %v at %+v,\nnot %+v, %v, at %+v", c, p.Rows, was, trap, left, end, err, s)
 	}
