@@ -187,6 +187,24 @@ func TestInterruptsComeWhenTheyMay(t *testing.T) {
 	}
 }
 
+// P60: whether one comes among the next steps, as steps tell.
+func TestInterruptsAreToldAhead(t *testing.T) {
+	for many := 1; many < 26; many++ {
+		for _, compare := range []uint32{0, 1, 69, 70, 71, 72, 93, 94, 95, 96, ones} {
+			for status := range uint32(4) {
+				s := api.State{PC: 64, Next: 68, Compare: compare, Status: status, Count: 70}
+				told, comes := cpu.Interrupts(&s, many), false
+				for b := bus.New(nil); s.Count < 70+many && !comes; {
+					comes = cpu.Step(&s, b) == api.Int
+				}
+				if told != comes {
+					t.Errorf("compare %d, status %d, of %d: %v", compare, status, many, told)
+				}
+			}
+		}
+	}
+}
+
 // P60: an interrupt is ahead of whatever would go wrong at PC, and Bad stays.
 func TestInterruptsComeFirst(t *testing.T) {
 	for _, pc := range []uint32{64, 66, 16384} {
